@@ -1,0 +1,1 @@
+"""Names that came most often, kept in few drawers."""
