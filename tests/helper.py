@@ -9,6 +9,7 @@ from drawerdesk.errors import (
 
 ERRORS = (NoName, NoWeight, NoDesk, NoMatch, NoPiece, NoText)
 GREAT = 10 ** 60
+NAMES = ["a", "b", "c", "d", "e", "f", "g", "ab", "zz", "abcdefgh", "m", "z"]
 
 
 class Sour:
@@ -50,6 +51,12 @@ def no_drawers():
     return odd_things() + [0, -1, -50, 51, 52, 100, GREAT, -GREAT, "", "1", "50", "a"]
 
 
+def no_numbers_of_pieces(most):
+    """What is no whole number from 1 to most."""
+    return odd_things() + [0, -1, -most, most + 1, most + 2, 2 * most, GREAT, -GREAT,
+                           "", "1", str(most), "a"]
+
+
 def state(desk):
     """All that a desk tells, with the order of what it shows."""
     return (desk.drawers(), list(desk.shown().items()), desk.lost(), desk.weight(),
@@ -65,6 +72,23 @@ def desk_of(drawers, comings):
         else:
             desk.come(*coming)
     return desk
+
+
+def let_come(desk, comings):
+    """Let these come: pairs."""
+    for name, weight in comings:
+        desk.come(name, weight)
+
+
+def weights_of(comings):
+    """The weight of each name in these comings, counted plainly."""
+    names = sorted(set(name for name, _ in comings))
+    return {name: sum(weight for other, weight in comings if other == name) for name in names}
+
+
+def added(one, other):
+    """The true weights of both together."""
+    return {name: one.get(name, 0) + other.get(name, 0) for name in {**one, **other}}
 
 
 def many_names(many):
@@ -89,6 +113,33 @@ class Case(unittest.TestCase):
         self.assertIs(type(desk.shown()), dict)
         self.assertEqual(list(desk.shown().items()), sorted(shown.items()))
         self.assertEqual((desk.lost(), desk.weight()), (lost, weight))
+
+    def assert_bounds(self, desk, true, alone):
+        """[0.1] (a) to (c) of a desk, by the true weights; alone: only names came to it."""
+        parts = desk.drawers() + 1
+        weight = sum(true.values())
+        shown = desk.shown()
+        self.assertEqual(desk.weight(), weight)
+        self.assertLessEqual(len(shown), desk.drawers())
+        self.assertEqual(list(shown), sorted(shown))
+        self.assertTrue(all(number > 0 for number in shown.values()))
+        for name in [*true, "unheard"]:
+            self.check_name(desk, name, true.get(name, 0), shown.get(name, 0))
+        together = sum(shown.values()) + parts * desk.lost()
+        self.assertLessEqual(together, weight)
+        if alone:
+            self.assertEqual(together, weight)
+        heavy = [name for name in true if true[name] * parts > weight]
+        self.assertLessEqual(set(heavy), set(desk.maybe()))
+        self.assertLessEqual(set(desk.surely()), set(heavy))
+        if len(true) <= desk.drawers():
+            self.assertEqual((desk.lost(), shown), (0, true))
+
+    def check_name(self, desk, name, true, number):
+        self.assertLessEqual(number, true)
+        self.assertGreaterEqual(number, true - desk.lost())
+        self.assertEqual(desk.least(name), number)
+        self.assertEqual(desk.most(name), number + desk.lost())
 
 
 class Chance:

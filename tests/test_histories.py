@@ -5,44 +5,10 @@ import unittest
 
 from drawerdesk.desks import Desk
 from drawerdesk.pours import poured, smaller
-from tests.helper import GREAT, Case, Chance, Plain, state
-
-NAMES = ["a", "b", "c", "d", "e", "f", "g", "ab", "zz", "abcdefgh", "m", "z"]
-
-
-def added(one, other):
-    """The true weights of both together."""
-    return {name: one.get(name, 0) + other.get(name, 0) for name in {**one, **other}}
+from tests.helper import GREAT, NAMES, Case, Chance, Plain, added, state
 
 
 class TestHistories(Case):
-    def check(self, desk, true, alone):
-        """The bounds of a desk, by the true weights; alone: only names came to it."""
-        parts = desk.drawers() + 1
-        weight = sum(true.values())
-        shown = desk.shown()
-        self.assertEqual(desk.weight(), weight)
-        self.assertLessEqual(len(shown), desk.drawers())
-        self.assertEqual(list(shown), sorted(shown))
-        self.assertTrue(all(number > 0 for number in shown.values()))
-        for name in [*true, "unheard"]:
-            self.check_name(desk, name, true.get(name, 0), shown.get(name, 0))
-        together = sum(shown.values()) + parts * desk.lost()
-        self.assertLessEqual(together, weight)
-        if alone:
-            self.assertEqual(together, weight)
-        heavy = [name for name in true if true[name] * parts > weight]
-        self.assertLessEqual(set(heavy), set(desk.maybe()))
-        self.assertLessEqual(set(desk.surely()), set(heavy))
-        if len(true) <= desk.drawers():
-            self.assertEqual((desk.lost(), shown), (0, true))
-
-    def check_name(self, desk, name, true, number):
-        self.assertLessEqual(number, true)
-        self.assertGreaterEqual(number, true - desk.lost())
-        self.assertEqual(desk.least(name), number)
-        self.assertEqual(desk.most(name), number + desk.lost())
-
     def test_all_short_histories(self):
         comings = [("a", 1), ("b", 1), ("c", 2), ("d", 3)]
         for drawers in (1, 2, 3):
@@ -67,7 +33,7 @@ class TestHistories(Case):
             plain.come(name, weight)
             true[name] = true.get(name, 0) + weight
             if at % often == 0 or at + 1 == len(history):
-                self.check(desk, true, True)
+                self.assert_bounds(desk, true, True)
                 self.assertEqual(state(desk), plain.state())
 
     def test_heavy_name_is_shown_whatever_the_order(self):
@@ -94,7 +60,7 @@ class TestHistories(Case):
                 at = chance.below(len(rows))
                 rows[at] = self.step(chance, rows, rows[at], names)
                 desk, plain, true, alone = rows[at]
-                self.check(desk, true, alone)
+                self.assert_bounds(desk, true, alone)
                 self.assertEqual(state(desk), plain.state())
 
     def step(self, chance, rows, row, names):
@@ -131,11 +97,11 @@ class TestHistories(Case):
                 weight = chance.among([GREAT, GREAT - 1, 1, GREAT // 3, GREAT // 7 + 1])
                 desks[at].come(name, weight)
                 true[at][name] = true[at].get(name, 0) + weight
-                self.check(desks[at], true[at], True)
+                self.assert_bounds(desks[at], true[at], True)
             both = poured(desks[0], desks[1])
-            self.check(both, added(true[0], true[1]), False)
+            self.assert_bounds(both, added(true[0], true[1]), False)
             for fewer in range(1, drawers + 1):
-                self.check(smaller(both, fewer), added(true[0], true[1]), False)
+                self.assert_bounds(smaller(both, fewer), added(true[0], true[1]), False)
 
 
 if __name__ == "__main__":
